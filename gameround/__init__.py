@@ -1,0 +1,1 @@
+"""Gameround: a season of games and its table."""

@@ -1,0 +1,13 @@
+"""The refusals of the program."""
+
+
+class SeasonError(ValueError):
+    pass
+
+
+class NoGame(SeasonError):
+    pass
+
+
+class ToldTwice(SeasonError):
+    pass
